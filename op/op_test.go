@@ -883,6 +883,48 @@ func TestTidyOfMorePutsThanFit(t *testing.T) {
 	wantTidy(t, append(slices.Repeat(api.Op{put(most)}, api.MaxParts-1), keep(1)), api.Op{put(strings.Repeat(most, api.MaxParts-1)), keep(1)})
 }
 
+// What is no operation is tidied as well: more parts than it may have, more items, no Keep at its end.
+func TestTidied(t *testing.T) {
+	for _, x := range []struct{ o, want api.Op }{
+		{nil, nil},
+		{api.Op{}, nil},
+		{api.Op{cut(1), put("a")}, api.Op{put("a"), cut(1)}},
+		{api.Op{keep(1), put("a"), cut(1), put("b")}, api.Op{keep(1), put("ab"), cut(1)}},
+		{api.Op{keep(api.MaxItems), keep(1)}, api.Op{keep(api.MaxItems + 1)}},
+		{slices.Repeat(api.Op{keep(1)}, 9*api.MaxParts), api.Op{keep(9 * api.MaxParts)}},
+		{slices.Repeat(api.Op{cut(1), put("a")}, 9*api.MaxParts), api.Op{put(strings.Repeat("a", 9*api.MaxParts)), cut(9 * api.MaxParts)}},
+		{slices.Repeat(api.Op{keep(1), cut(1)}, api.MaxParts), slices.Repeat(api.Op{keep(1), cut(1)}, api.MaxParts)},
+	} {
+		if got := Tidied(x.o); !alike(got, x.want) {
+			t.Errorf("Tidied(%#v) = %#v, want %#v", x.o, got, x.want)
+		}
+	}
+	everyOp(fair, 4, func(o api.Op) {
+		if got := Tidied(o); !alike(got, byPairs(o)) {
+			t.Fatalf("Tidied(%#v) = %#v", o, got)
+		}
+	})
+}
+
+func TestChanged(t *testing.T) {
+	for _, p := range fair[:5] {
+		for n := range 9 {
+			l := append(text(9)[:n], items("room")...)[:n]
+			kept := slices.Clone(l[:cap(l)])
+			p.N = n
+			want := fromBehind(l, api.Op{p})
+			got := Changed(l, p)
+			if !slices.Equal(got, want) {
+				t.Fatalf("Changed(%#v, %#v) = %#v, want %#v", l, p, got, want)
+			}
+			spoil(got)
+			if !slices.Equal(l[:cap(l)], kept) {
+				t.Fatalf("Changed(%#v, %#v) changes what was handed in", l, p)
+			}
+		}
+	}
+}
+
 // roomy answers o, laid in lists that have more in them behind their ends.
 func roomy(o api.Op) api.Op {
 	room := api.Op{}
