@@ -988,3 +988,31 @@ func TestTidyAnswersListsOfTheirOwn(t *testing.T) {
 	}
 	wantTidy(t, o, want)
 }
+
+func TestCopy(t *testing.T) {
+	for _, o := range []api.Op{nil, {}, {put("ab"), cut(1), put("c"), keep(1)}, {{}}, {{Kind: -1, N: -2, Items: items("x"), Set: 9, Clear: -9, To: true, Link: "javascript:x"}, {Items: []api.Item{}}}} {
+		o = roomy(o)
+		kept := withRoom(o)
+		want := copyOf(o)
+		for i := range want {
+			got := Copy(o)
+			spoil(got[i].Items)
+			got[i].Items = want[i].Items
+			if !alike(got, want) {
+				t.Fatalf("what is written into part %d shows in others: %#v", i, got)
+			}
+		}
+		got := Copy(o)
+		if !alike(got, want) {
+			t.Fatalf("Copy(%#v) = %#v", o, got)
+		}
+		got = got[:cap(got)]
+		for i := range got {
+			spoil(got[i].Items)
+			got[i] = api.Part{Kind: -1}
+		}
+		if !alike(withRoom(o), kept) {
+			t.Fatalf("of %#v something is changed", o)
+		}
+	}
+}
