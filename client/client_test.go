@@ -333,7 +333,7 @@ func TestSameLooksAtAllFields(t *testing.T) {
 	}
 	for i, a := range others {
 		for k, b := range others {
-			if Same(a, copyOf(b)) != (i == k) {
+			if Same(a, Copy(b)) != (i == k) {
 				t.Fatalf("Same(%v, %v) = %t", a, b, i != k)
 			}
 		}
@@ -1048,5 +1048,19 @@ func TestOneListAsSeveral(t *testing.T) {
 				return got
 			}, isAsItWas)
 		}
+	}
+}
+
+// Copy takes whatever there is, clients or not.
+func TestCopy(t *testing.T) {
+	l := append(someClients(), api.Client{}, api.Client{Base: api.Doc{}, Now: api.Doc{}, Sent: api.Op{}, Held: api.Op{}},
+		api.Client{Rev: -1, Base: api.Doc{{C: 255, Marks: -1, Link: "javascript:x"}}, Seq: math.MinInt, Held: api.Op{{Kind: -1, N: -2, Items: items("x"), Set: 9, To: true}}})
+	for _, c := range l {
+		c := roomy(c)
+		kept := withRoom(c)
+		if got := Copy(c); !alike(got, c) {
+			t.Fatalf("Copy(%v) = %v", c, got)
+		}
+		wantOwn(t, func() api.Client { return Copy(c) }, func() bool { return alike(withRoom(c), kept) })
 	}
 }

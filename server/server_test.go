@@ -408,7 +408,7 @@ func TestSameLooksAtAllFields(t *testing.T) {
 	}
 	for i, a := range others {
 		for k, b := range others {
-			if Same(a, copyOf(b)) != (i == k) {
+			if Same(a, Copy(b)) != (i == k) {
 				t.Fatalf("Same(%v, %v) = %t", a, b, i != k)
 			}
 		}
@@ -984,4 +984,20 @@ func TestOneListAsSeveral(t *testing.T) {
 		}, func() bool { return alike(withRoom(s), kept) })
 	}
 	wantTake(t, s, 0, s.Log[1], s)
+}
+
+// Copy takes whatever there is, servers or not.
+func TestCopy(t *testing.T) {
+	for _, s := range []api.Server{
+		{}, {First: api.Doc{}, Log: []api.Entry{}, Now: api.Doc{}},
+		made(text(4), entry(0, 1, put("ab"), keep(1), put("c"), cut(1), keep(2)), entry(1, 1, keep(2), put("x"), mark(4, 1, 0))),
+		{First: api.Doc{{C: 255, Marks: -1, Link: "javascript:x"}}, Log: []api.Entry{{Client: -1, Seq: math.MinInt, O: api.Op{{Kind: -1, N: -2, Items: items("x"), Set: 9, To: true}}}, {}}},
+	} {
+		s := roomy(s)
+		kept := withRoom(s)
+		if got := Copy(s); !alike(got, s) {
+			t.Fatalf("Copy(%v) = %v", s, got)
+		}
+		wantOwn(t, func() api.Server { return Copy(s) }, func() bool { return alike(withRoom(s), kept) })
+	}
 }
